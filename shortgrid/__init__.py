@@ -1,0 +1,1 @@
+"""Shortgrid: grids of points, told by short rows."""

@@ -1,0 +1,194 @@
+"""What is refused, and by which class."""
+
+import decimal
+import fractions
+import unittest
+
+from shortgrid.errors import BadPoint, BadRows, BadWeights
+from shortgrid.grids import bulk, counters, point_of, weights_of
+
+MOST = 1000000
+FAR = 10 ** 12
+
+
+class Hostile:
+    """A thing that fails in whatever it is asked."""
+
+    def fail(self, *told):
+        raise RuntimeError("asked")
+
+    __eq__ = __ne__ = __lt__ = __le__ = __gt__ = __ge__ = __hash__ = fail
+    __len__ = __iter__ = __getitem__ = __contains__ = __bool__ = fail
+    __index__ = __int__ = __neg__ = __add__ = __mul__ = __rmul__ = __str__ = __repr__ = __format__ = fail
+
+
+class Listing:
+    """A thing that can be gone through like rows, but is no list."""
+
+    def __len__(self):
+        return 1
+
+    def __iter__(self):
+        return iter([(1,)])
+
+    def __getitem__(self, at):
+        return [(1,)][at]
+
+
+NO_NUMBERS = (True, False, "1", "", None, 1.0, 0.0, float("nan"), float("inf"), 1j, fractions.Fraction(1),
+              decimal.Decimal(1), b"1", (1,), [1], {}, set(), object(), int, Hostile(), Listing())
+NO_SEQUENCES = (None, "", "1", "12", "123", b"", b"1", b"123", 0, 1, 3, True, False, 1.5, {}, {0: 1, 1: 2}, set(),
+                {1, 2}, frozenset({1}), range(2), iter([1, 2]), object(), list, tuple, Hostile(), Listing())
+
+
+def eye(many):
+    return [tuple(1 if k == at else 0 for k in range(many)) for at in range(many)]
+
+
+def with_number(rows, at, place, number):
+    changed = [list(row) for row in rows]
+    changed[at][place] = number
+    return [tuple(row) for row in changed]
+
+
+def with_row(rows, at, row):
+    return rows[:at] + [row] + rows[at + 1:]
+
+
+def nested_in_itself():
+    rows = []
+    rows.append(rows)
+    return rows
+
+
+def bad_rows_by_shape():
+    yield from NO_SEQUENCES
+    yield from ([], (), ((1,),), ((1, 0), (0, 1)), {(1,)}, {(1,): 1}, [[1]], [1], [None], ["1"], [()])
+    yield from ([(1, 0)], [(), ()], [(1,), (1,)], [(1, 0), (0,)], [(1, 0), (0, 1, 0)], [(1, 0, 0), (0, 1, 0)])
+    yield nested_in_itself()
+    yield eye(4)
+    yield [(1, 0, 0)] + eye(3)
+    yield eye(3)[:2]
+    yield eye(2) * 3
+
+
+def bad_rows_by_row():
+    for many in (1, 2, 3):
+        rows = eye(many)
+        for at in range(many):
+            for row in NO_SEQUENCES:
+                yield with_row(rows, at, row)
+            good = rows[at]
+            for row in (list(good), set(good), good + (0,), good[1:], good[:-1], (), [], (good,)):
+                yield with_row(rows, at, row)
+
+
+def bad_rows_by_number():
+    for many in (1, 2, 3):
+        for at in range(many):
+            for place in range(many):
+                for number in NO_NUMBERS + (MOST + 1, -MOST - 1, 10 ** 40, -10 ** 40):
+                    yield with_number(eye(many), at, place, number)
+
+
+def all_bad_rows():
+    yield from bad_rows_by_shape()
+    yield from bad_rows_by_row()
+    yield from bad_rows_by_number()
+
+
+NO_GRIDS = ([(0,)], [(0, 0), (0, 0)], [(1, 2), (1, 2)], [(1, 2), (-2, -4)], [(0, 0), (1, 2)],
+            [(1, 2, 3), (4, 5, 6), (5, 7, 9)], [(1, 2, 3), (4, 5, 6), (1, 2, 3)], [(0, 0, 0), (4, 5, 6), (1, 2, 3)],
+            [(MOST, -MOST), (-MOST, MOST)])
+
+
+def bad_numbers_of(kind, many):
+    """Lists or tuples of which one number is none."""
+    for at in range(many):
+        for number in NO_NUMBERS + (FAR + 1, -FAR - 1, 10 ** 40, -10 ** 40):
+            numbers = [1] * many
+            numbers[at] = number
+            yield kind(numbers)
+
+
+def bad_points(many):
+    yield from NO_SEQUENCES
+    yield from ([1] * many, [], (), (1,) * (many + 1), (1,) * (many - 1), (1,) * 4, [(1,) * many], ((1,) * many,))
+    yield from bad_numbers_of(tuple, many)
+
+
+def bad_weights(many):
+    yield from NO_SEQUENCES
+    yield from ((1,) * many, (), [], [1] * (many + 1), [1] * (many - 1), [1] * 4, [[1] * many], ([1] * many,))
+    yield nested_in_itself()
+    yield from bad_numbers_of(list, many)
+
+
+class RefusalsTest(unittest.TestCase):
+    def refused(self, kind, asked, *told):
+        # The things that fail when shown stay out of the message, so only the class is compared.
+        found = None
+        try:
+            asked(*told)
+        except Exception as error:
+            found = error.__class__
+        self.assertIs(found, kind, asked.__name__)
+
+    def test_bad_rows(self):
+        for many, rows in enumerate(all_bad_rows()):
+            with self.subTest(which=many):
+                self.refused(BadRows, bulk, rows)
+                self.refused(BadRows, counters, rows)
+                for size in (1, 2, 3):
+                    self.refused(BadRows, point_of, rows, [1] * size)
+                    self.refused(BadRows, weights_of, rows, (1,) * size)
+
+    def test_rows_without_bulk(self):
+        for rows in NO_GRIDS:
+            with self.subTest(rows=rows):
+                self.assertEqual(bulk(rows), 0)
+                self.refused(BadRows, counters, rows)
+                self.refused(BadRows, point_of, rows, [0] * len(rows))
+                self.refused(BadRows, weights_of, rows, (0,) * len(rows))
+
+    def test_rows_at_their_bounds_are_taken(self):
+        for many in (1, 2, 3):
+            for at in range(many):
+                for place in range(many):
+                    for number in (MOST, -MOST):
+                        rows = with_number(eye(many), at, place, number)
+                        with self.subTest(rows=rows):
+                            self.assertEqual(bulk(rows), number if at == place else 1)
+                            self.assertEqual(len(counters(rows)), many)
+                            self.assertEqual(point_of(rows, [0] * many), (0,) * many)
+                            self.assertEqual(weights_of(rows, (0,) * many), [0] * many)
+
+    def test_bad_points(self):
+        for many in (1, 2, 3):
+            for which, point in enumerate(bad_points(many)):
+                with self.subTest(many=many, which=which):
+                    self.refused(BadPoint, weights_of, eye(many), point)
+
+    def test_bad_weights(self):
+        for many in (1, 2, 3):
+            for which, weights in enumerate(bad_weights(many)):
+                with self.subTest(many=many, which=which):
+                    self.refused(BadWeights, point_of, eye(many), weights)
+
+    def test_points_and_weights_at_their_bounds_are_taken(self):
+        for many in (1, 2, 3):
+            for at in range(many):
+                for number in (FAR, -FAR):
+                    numbers = [1] * many
+                    numbers[at] = number
+                    with self.subTest(numbers=numbers):
+                        self.assertEqual(point_of(eye(many), numbers), tuple(numbers))
+                        self.assertEqual(weights_of(eye(many), tuple(numbers)), numbers)
+
+    def test_bad_rows_come_ahead_of_points_and_weights(self):
+        for rows in (None, (), [], [[1]], [(1.0,)], [(True,)], [(MOST + 1,)], eye(4)) + NO_GRIDS:
+            for many in (1, 2, 3):
+                for point in bad_points(many):
+                    self.refused(BadRows, weights_of, rows, point)
+                for weights in bad_weights(many):
+                    self.refused(BadRows, point_of, rows, weights)
