@@ -10,33 +10,63 @@ def bulk(rows):
     return expanded(rows)
 
 
-def grid_bulk(rows):
-    """The bulk of rows that make a grid; others are refused."""
-    found = bulk(rows)
-    if found == 0:
+def check_grid(rows):
+    """Refuse what is no list of rows that make a grid."""
+    if bulk(rows) == 0:
         raise BadRows("the bulk of the rows is 0")
-    return found
+
+
+def check_grids(one, other):
+    """Refuse two lists of rows if one of them makes no grid, or if they are of unlike many rows."""
+    check_grid(one)
+    check_grid(other)
+    if len(one) != len(other):
+        raise BadRows("two lists of rows are of as many rows")
 
 
 def counters(rows):
     """The list of counters, one tuple for each row."""
-    grid_bulk(rows)
-    return [counter(rows, at) for at in range(len(rows))]
+    check_grid(rows)
+    return all_counters(rows)
 
 
 def point_of(rows, weights):
     """The point of the weights: the sum of all rows, each as often as its weight tells."""
-    grid_bulk(rows)
+    check_grid(rows)
     check_weights(weights, len(rows))
-    return tuple([together(weights, [row[place] for row in rows]) for place in range(len(rows))])
+    return weighted(rows, weights)
 
 
 def weights_of(rows, point):
     """The weights whose point this is, or None if it is no point of the grid."""
-    by = grid_bulk(rows)
+    check_grid(rows)
     check_point(point, len(rows))
+    return told_by(rows, point)
+
+
+def square(step):
+    """What the numbers of a step, each times itself, come to."""
+    return together(step, step)
+
+
+# The functions below take what may be greater than rows and points that are handed in, and check nothing.
+
+
+def all_counters(rows):
+    """The list of counters of rows that make a grid."""
+    return [counter(rows, at) for at in range(len(rows))]
+
+
+def weighted(steps, weights):
+    """The sum of all steps, each as often as its weight tells; there is at least one."""
+    return tuple([together(weights, numbers) for numbers in zip(*steps)])
+
+
+def told_by(rows, point):
+    """The weights of the rows whose point this is, or None if it is no point of their grid."""
+    by = expanded(rows)
     weights = []
-    for one in counters(rows):
+    for one in all_counters(rows):
         weight, left = divmod(together(point, one), by)
         if left != 0:
             return None
@@ -44,9 +74,15 @@ def weights_of(rows, point):
     return weights
 
 
-def square(step):
-    """What the numbers of a step, each times itself, come to."""
-    return together(step, step)
+def table(points, rows):
+    """Each of the points by the rows, or None if one of them is no point of their grid."""
+    found = [told_by(rows, point) for point in points]
+    return None if any([weights is None for weights in found]) else found
+
+
+def moved(step, times, other):
+    """The step and so many times the other one, added up."""
+    return tuple([number + times * more for number, more in zip(step, other)])
 
 
 def together(numbers, others):

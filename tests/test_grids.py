@@ -5,19 +5,8 @@ import itertools
 import unittest
 
 from shortgrid.grids import bulk, counters, point_of, square, weights_of
+from tests.samples import FAR, GRIDS, MOST, bulk_by_all_ways, inversions, point_by_adding, together
 
-MOST = 1000000
-FAR = 10 ** 12
-
-GRIDS = (
-    [(1,)], [(7,)], [(-7,)], [(MOST,)], [(-MOST,)],
-    [(1, 0), (0, 1)], [(0, 1), (1, 0)], [(3, -1), (0, 4)], [(0, 4), (3, -1)], [(5, 7), (-2, 3)], [(2, 9), (3, 4)],
-    [(MOST, MOST), (MOST, -MOST)], [(-MOST, MOST), (-MOST, -MOST)],
-    [(1, 0, 0), (0, 1, 0), (0, 0, 1)], [(0, 1, 0), (0, 0, 1), (1, 0, 0)], [(0, 0, 2), (0, 3, 0), (5, 0, 0)],
-    [(1, 2, 3), (0, 1, 4), (5, 6, 0)], [(2, -3, 1), (4, 0, -5), (-1, 6, 7)], [(4, 0, -5), (2, -3, 1), (-1, 6, 7)],
-    [(MOST, MOST, MOST), (MOST, -MOST, MOST), (MOST, MOST, -MOST)],
-    [(-MOST, MOST, -MOST), (-MOST, -MOST, MOST), (MOST, -MOST, -MOST)],
-)
 POINTS_BESIDE = (
     ([(2,)], (1,)), ([(-2,)], (3,)), ([(7,)], (-6,)), ([(MOST,)], (MOST - 1,)),
     ([(2, 0), (0, 3)], (1, 0)), ([(2, 0), (0, 3)], (0, 1)), ([(2, 0), (0, 3)], (2, -2)),
@@ -26,33 +15,6 @@ POINTS_BESIDE = (
     ([(2, 0, 0), (0, 3, 0), (0, 0, 5)], (2, 3, -1)), ([(0, 0, 5), (0, 3, 0), (2, 0, 0)], (2, 3, 4)),
     ([(1, 1, 0), (1, -1, 0), (0, 0, 1)], (FAR, FAR - 1, FAR)),
 )
-
-
-def inversions(places):
-    return sum(1 for one, other in itertools.combinations(places, 2) if one > other)
-
-
-def bulk_by_all_ways(rows):
-    """The bulk just as the document words it."""
-    total = 0
-    for places in itertools.permutations(range(len(rows))):
-        product = 1
-        for row, place in zip(rows, places):
-            product *= row[place]
-        total += product if inversions(places) % 2 == 0 else -product
-    return total
-
-
-def together(numbers, others):
-    return sum(number * other for number, other in zip(numbers, others))
-
-
-def point_by_adding(rows, weights):
-    point = [0] * len(rows)
-    for row, weight in zip(rows, weights):
-        for place, number in enumerate(row):
-            point[place] += weight * number
-    return tuple(point)
 
 
 def weights_near(many):

@@ -6,9 +6,10 @@ import unittest
 
 from shortgrid.errors import BadPoint, BadRows, BadWeights
 from shortgrid.grids import bulk, counters, point_of, weights_of
-
-MOST = 1000000
-FAR = 10 ** 12
+from shortgrid.least import shortest
+from shortgrid.short import shortened
+from shortgrid.stairs import common, joined, made_of, same, stair
+from tests.samples import FAR, MOST, eye
 
 
 class Hostile:
@@ -39,10 +40,6 @@ NO_NUMBERS = (True, False, "1", "", None, 1.0, 0.0, float("nan"), float("inf"), 
               decimal.Decimal(1), b"1", (1,), [1], {}, set(), object(), int, Hostile(), Listing())
 NO_SEQUENCES = (None, "", "1", "12", "123", b"", b"1", b"123", 0, 1, 3, True, False, 1.5, {}, {0: 1, 1: 2}, set(),
                 {1, 2}, frozenset({1}), range(2), iter([1, 2]), object(), list, tuple, Hostile(), Listing())
-
-
-def eye(many):
-    return [tuple(1 if k == at else 0 for k in range(many)) for at in range(many)]
 
 
 def with_number(rows, at, place, number):
@@ -124,6 +121,10 @@ def bad_weights(many):
     yield from bad_numbers_of(list, many)
 
 
+OF_ONE = (stair, shortened, shortest)
+OF_TWO = (same, made_of, joined, common)
+
+
 class RefusalsTest(unittest.TestCase):
     def refused(self, kind, asked, *told):
         # The things that fail when shown stay out of the message, so only the class is compared.
@@ -192,3 +193,53 @@ class RefusalsTest(unittest.TestCase):
                     self.refused(BadRows, weights_of, rows, point)
                 for weights in bad_weights(many):
                     self.refused(BadRows, point_of, rows, weights)
+
+    def test_bad_rows_of_one_list(self):
+        for many, rows in enumerate(all_bad_rows()):
+            for asked in OF_ONE:
+                with self.subTest(which=many, asked=asked.__name__):
+                    self.refused(BadRows, asked, rows)
+
+    def test_bad_rows_in_either_place(self):
+        for many, rows in enumerate(all_bad_rows()):
+            for asked in OF_TWO:
+                for size in (1, 2, 3):
+                    with self.subTest(which=many, asked=asked.__name__, size=size):
+                        self.refused(BadRows, asked, rows, eye(size))
+                        self.refused(BadRows, asked, eye(size), rows)
+
+    def test_bad_rows_in_both_places(self):
+        for rows in (None, [], [(True,)], [(1.5, 0), (0, 1)], eye(4), Hostile()) + NO_GRIDS:
+            for other in (None, [], [(MOST + 1,)], [[1, 0], [0, 1]], eye(4), Hostile()) + NO_GRIDS:
+                for asked in OF_TWO:
+                    self.refused(BadRows, asked, rows, other)
+
+    def test_rows_without_bulk_in_any_place(self):
+        for rows in NO_GRIDS:
+            for asked in OF_ONE:
+                with self.subTest(rows=rows, asked=asked.__name__):
+                    self.refused(BadRows, asked, rows)
+            for asked in OF_TWO:
+                for size in (1, 2, 3):
+                    with self.subTest(rows=rows, asked=asked.__name__, size=size):
+                        self.refused(BadRows, asked, rows, eye(size))
+                        self.refused(BadRows, asked, eye(size), rows)
+
+    def test_lists_of_unlike_many_rows(self):
+        for asked in OF_TWO:
+            for one in (1, 2, 3):
+                for other in (1, 2, 3):
+                    with self.subTest(asked=asked.__name__, one=one, other=other):
+                        self.refused(None if one == other else BadRows, asked, eye(one), eye(other))
+
+    def test_rows_at_their_bounds_are_taken_by_all(self):
+        for many in (1, 2, 3):
+            for at in range(many):
+                for place in range(many):
+                    for number in (MOST, -MOST):
+                        rows = with_number(eye(many), at, place, number)
+                        for asked in OF_ONE:
+                            self.refused(None, asked, rows)
+                        for asked in OF_TWO:
+                            self.refused(None, asked, rows, eye(many))
+                            self.refused(None, asked, eye(many), rows)
