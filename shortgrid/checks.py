@@ -1,9 +1,10 @@
-"""What rows, points and weights look like, whatever is handed in as such."""
+"""What rows, points, weights and spots look like, whatever is handed in as such."""
 
-from shortgrid.errors import BadPoint, BadRows, BadWeights
+from shortgrid.errors import BadPoint, BadRows, BadSpot, BadWeights
 
 ROW_BOUND = 1000000
 POINT_BOUND = 10 ** 12
+BY_BOUND = 1000000
 
 
 def is_whole(thing, bound):
@@ -40,3 +41,14 @@ def check_weights(weights, many):
     """Refuse what is no list of weights for so many rows."""
     if type(weights) != list or not are_whole(weights, many, POINT_BOUND):
         raise BadWeights("weights are a list of a whole number for each row, from -10 ** 12 to 10 ** 12")
+
+
+def check_spot(spot, many):
+    """Refuse what is no spot of so many directions."""
+    if type(spot) != tuple or len(spot) != 2:
+        raise BadSpot("a spot is a tuple of two things, a tuple and a whole number")
+    numbers, by = spot
+    if not is_tuple_of(numbers, many, POINT_BOUND):
+        raise BadSpot("a spot has a whole number for each direction, from -10 ** 12 to 10 ** 12")
+    if not is_whole(by, BY_BOUND) or by < 1:
+        raise BadSpot("a spot's numbers are divided by a whole number from 1 to 1000000")

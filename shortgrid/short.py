@@ -1,7 +1,7 @@
 """Short rows: rows of the same grid of which none becomes shorter by the others."""
 
 from shortgrid.boxes import within
-from shortgrid.grids import all_counters, check_grid, expanded, moved, square, table, together, weighted
+from shortgrid.grids import all_counters, check_grid, expanded, square, table, together, weighted
 from shortgrid.numbers import rounded
 
 
@@ -32,10 +32,18 @@ def short_rows(rows):
 
 def brought_near(step, ahead):
     """The shortest of all that the step becomes by adding and taking away one or two rows, short among themselves."""
-    near = weighted([step] + ahead, [1] + [-times for times in shares(step, ahead)])
-    # As the rows are short, no exact share is farther than 1 from the best number of times, and none is farther than
-    # a half from the rounded one. So the best one is at most 1 beside the rounded one.
-    return min([moved(near, 1, weighted(ahead, weights)) for weights in within([1] * len(ahead))], key=square)
+    return min(all_near(step, ahead), key=square)
+
+
+def all_near(step, ahead):
+    """Some of what the step becomes by up to two rows, short among themselves; all the shortest are among it."""
+    taken = shares(step, ahead)
+    # As the rows are short, no exact share is farther than 1 from a best number of times, and none is farther than
+    # a half from the rounded one. So a best one is at most 1 beside the rounded one.
+    return [
+        weighted([step] + ahead, [1] + [beside - times for beside, times in zip(weights, taken)])
+        for weights in within([1] * len(ahead))
+    ]
 
 
 def shares(step, ahead):

@@ -102,6 +102,28 @@ def mixed(rows, seed, turns=40):
     return rows
 
 
+def taken(rows, at, times):
+    """The rows with one of them taken so often."""
+    return rows[:at] + [tuple(times * number for number in rows[at])] + rows[at + 1:]
+
+
+def pairs():
+    """Two lists of as many rows each, of all sizes and shapes."""
+    for many in (1, 2, 3):
+        for most in (2, 5, 30, MOST):
+            for seed in range(10):
+                one = some_rows(many, most, seed)
+                yield one, some_rows(many, most, seed + 100)
+                yield one, mixed(one, seed)
+                yield one, taken(one, many - 1, 2) if most < MOST else eye(many)
+    yield [(MOST,)], [(MOST - 1,)]
+    yield [(-4,)], [(6,)]
+    yield [(MOST, 0), (0, MOST)], [(MOST - 1, 0), (0, MOST - 1)]
+    yield [(MOST, 1 - MOST), (MOST, MOST)], [(MOST - 1, MOST), (-MOST, MOST - 3)]
+    yield eye(3), [(MOST, MOST, MOST), (MOST, -MOST, MOST), (MOST, MOST, -MOST)]
+    yield [(2, 0, 0), (0, 3, 0), (0, 0, 5)], [(0, 0, 2), (3, 0, 0), (0, 5, 0)]
+
+
 def inversions(places):
     return sum(1 for one, other in itertools.combinations(places, 2) if one > other)
 
@@ -131,6 +153,12 @@ def point_by_adding(rows, weights):
         for place, number in enumerate(row):
             point[place] += weight * number
     return tuple(point)
+
+
+def counters_by_bulks(rows):
+    """The counters: the number at a place is the bulk with a row of noughts but for a 1 there in the row's stead."""
+    return [tuple(bulk_by_all_ways(rows[:at] + [one] + rows[at + 1:]) for one in eye(len(rows)))
+            for at in range(len(rows))]
 
 
 def weights_by_bulks(rows, point):
@@ -181,6 +209,15 @@ def lists_in(found):
         if type(thing) in (list, tuple):
             lists.extend(lists_in(thing))
     return lists
+
+
+def check_short_rows(case, rows, shorts):
+    """They are a list of tuples, short, and make the same grid."""
+    case.assertIs(type(shorts), list)
+    case.assertTrue(all(type(row) is tuple for row in shorts))
+    case.assertTrue(is_short(shorts))
+    case.assertTrue(lies_within(shorts, rows))
+    case.assertTrue(lies_within(rows, shorts))
 
 
 def check_lists_are_new(case, asked, *told):

@@ -6,14 +6,9 @@ import unittest
 
 from shortgrid.grids import counters
 from shortgrid.least import shortest
-from tests.samples import (HARD_GRIDS, MOST, all_rows_in, bulk_by_all_ways, check_lists_are_new, eye, flat_rows,
-                           is_short, lies_within, many_grids, mixed, point_by_adding, some_of, some_rows, square_of)
-
-
-def counters_by_bulks(rows):
-    """The counters: the number at a place is the bulk with a row of noughts but for a 1 there in the row's stead."""
-    return [tuple(bulk_by_all_ways(rows[:at] + [one] + rows[at + 1:]) for one in eye(len(rows)))
-            for at in range(len(rows))]
+from tests.samples import (HARD_GRIDS, MOST, all_rows_in, bulk_by_all_ways, check_lists_are_new, check_short_rows,
+                           counters_by_bulks, eye, flat_rows, many_grids, mixed, point_by_adding, some_of, some_rows,
+                           square_of)
 
 
 def lists_within(box):
@@ -32,7 +27,7 @@ class ShortestTest(unittest.TestCase):
         self.assertIs(type(found), tuple)
         self.assertEqual(len(found), 4)
         shorts, step, box, lists = found
-        self.short_rows_hold(rows, shorts)
+        check_short_rows(self, rows, shorts)
         self.box_holds(shorts, step, box)
         self.assertIs(type(lists), list)
         self.assertEqual(lists, lists_within(box))
@@ -47,13 +42,6 @@ class ShortestTest(unittest.TestCase):
             if any(weights):
                 self.assertGreaterEqual(square_of(point_by_adding(shorts, weights)), least)
                 self.assertGreaterEqual(square_of(point_by_adding(rows, weights)), least)
-
-    def short_rows_hold(self, rows, shorts):
-        self.assertIs(type(shorts), list)
-        self.assertTrue(all(type(row) is tuple for row in shorts))
-        self.assertTrue(is_short(shorts))
-        self.assertTrue(lies_within(shorts, rows))
-        self.assertTrue(lies_within(rows, shorts))
 
     def box_holds(self, shorts, step, box):
         self.assertIs(type(box), list)

@@ -4,9 +4,12 @@ import decimal
 import fractions
 import unittest
 
-from shortgrid.errors import BadPoint, BadRows, BadWeights
+from shortgrid.errors import BadPoint, BadRows, BadSpot, BadText, BadWeights, TooMany
 from shortgrid.grids import bulk, counters, point_of, weights_of
 from shortgrid.least import shortest
+from shortgrid.near import nearest
+from shortgrid.notes import read, shown
+from shortgrid.rests import index, rest, rests
 from shortgrid.short import shortened
 from shortgrid.stairs import common, joined, made_of, same, stair
 from tests.samples import FAR, MOST, eye
@@ -121,8 +124,29 @@ def bad_weights(many):
     yield from bad_numbers_of(list, many)
 
 
-OF_ONE = (stair, shortened, shortest)
-OF_TWO = (same, made_of, joined, common)
+def bad_spots(many):
+    good = (1,) * many
+    yield from NO_SEQUENCES
+    yield from ((), [], (good,), (good, 1, 1), [good, 1], (1, good), (good, good), good + (1,), ((good, 1),), {good: 1})
+    yield nested_in_itself()
+    for numbers in bad_points(many):
+        yield numbers, 1
+    for by in NO_NUMBERS + (0, -1, -MOST, MOST + 1, FAR, 10 ** 40, -10 ** 40):
+        yield good, by
+    for numbers in (None, list(good), good + (0,), good[1:], (None,) * many, (FAR + 1,) * many):
+        for by in (0, None, True, MOST + 1):
+            yield numbers, by
+
+
+def no_texts():
+    yield from (thing for thing in NO_NUMBERS + NO_SEQUENCES if type(thing) is not str)
+    yield from ([(1,)], [(3, -1), (0, 4)], (1,), ["1"], ("1",), {"1": 1}, [], (), b"3 -1; 0 4", bytearray(b"1"))
+    yield nested_in_itself()
+
+
+OF_ONE = (stair, shortened, shortest, rests, shown)
+OF_TWO = (same, made_of, joined, common, index)
+OF_POINT = (weights_of, rest)
 
 
 class RefusalsTest(unittest.TestCase):
@@ -142,7 +166,9 @@ class RefusalsTest(unittest.TestCase):
                 self.refused(BadRows, counters, rows)
                 for size in (1, 2, 3):
                     self.refused(BadRows, point_of, rows, [1] * size)
-                    self.refused(BadRows, weights_of, rows, (1,) * size)
+                    for asked in OF_POINT:
+                        self.refused(BadRows, asked, rows, (1,) * size)
+                    self.refused(BadRows, nearest, rows, ((1,) * size, 1))
 
     def test_rows_without_bulk(self):
         for rows in NO_GRIDS:
@@ -150,7 +176,9 @@ class RefusalsTest(unittest.TestCase):
                 self.assertEqual(bulk(rows), 0)
                 self.refused(BadRows, counters, rows)
                 self.refused(BadRows, point_of, rows, [0] * len(rows))
-                self.refused(BadRows, weights_of, rows, (0,) * len(rows))
+                for asked in OF_POINT:
+                    self.refused(BadRows, asked, rows, (0,) * len(rows))
+                self.refused(BadRows, nearest, rows, ((0,) * len(rows), 1))
 
     def test_rows_at_their_bounds_are_taken(self):
         for many in (1, 2, 3):
@@ -163,18 +191,43 @@ class RefusalsTest(unittest.TestCase):
                             self.assertEqual(len(counters(rows)), many)
                             self.assertEqual(point_of(rows, [0] * many), (0,) * many)
                             self.assertEqual(weights_of(rows, (0,) * many), [0] * many)
+                            self.assertEqual(rest(rows, (0,) * many), (0,) * many)
+                            self.assertEqual(nearest(rows, ((0,) * many, 1))[0], (0,) * many)
 
     def test_bad_points(self):
         for many in (1, 2, 3):
             for which, point in enumerate(bad_points(many)):
-                with self.subTest(many=many, which=which):
-                    self.refused(BadPoint, weights_of, eye(many), point)
+                for asked in OF_POINT:
+                    with self.subTest(many=many, which=which, asked=asked.__name__):
+                        self.refused(BadPoint, asked, eye(many), point)
 
     def test_bad_weights(self):
         for many in (1, 2, 3):
             for which, weights in enumerate(bad_weights(many)):
                 with self.subTest(many=many, which=which):
                     self.refused(BadWeights, point_of, eye(many), weights)
+
+    def test_bad_spots(self):
+        for many in (1, 2, 3):
+            for which, spot in enumerate(bad_spots(many)):
+                with self.subTest(many=many, which=which):
+                    self.refused(BadSpot, nearest, eye(many), spot)
+                    # This one has a box of too many lists of weights for whatever spot is halfway along it.
+                    self.refused(BadSpot, nearest, eye(many)[:-1] + [(0,) * (many - 1) + (MOST,)], spot)
+
+    def test_spots_at_their_bounds_are_taken(self):
+        for many in (1, 2, 3):
+            for at in range(many):
+                for number in (FAR, -FAR, 0):
+                    for by in (1, 2, MOST - 1, MOST):
+                        numbers = [0] * many
+                        numbers[at] = number
+                        self.refused(None, nearest, eye(many), (tuple(numbers), by))
+
+    def test_what_is_no_text(self):
+        for which, text in enumerate(no_texts()):
+            with self.subTest(which=which):
+                self.refused(BadText, read, text)
 
     def test_points_and_weights_at_their_bounds_are_taken(self):
         for many in (1, 2, 3):
@@ -185,14 +238,18 @@ class RefusalsTest(unittest.TestCase):
                     with self.subTest(numbers=numbers):
                         self.assertEqual(point_of(eye(many), numbers), tuple(numbers))
                         self.assertEqual(weights_of(eye(many), tuple(numbers)), numbers)
+                        self.assertEqual(rest(eye(many), tuple(numbers)), (0,) * many)
 
-    def test_bad_rows_come_ahead_of_points_and_weights(self):
+    def test_bad_rows_come_ahead_of_points_weights_and_spots(self):
         for rows in (None, (), [], [[1]], [(1.0,)], [(True,)], [(MOST + 1,)], eye(4)) + NO_GRIDS:
             for many in (1, 2, 3):
                 for point in bad_points(many):
-                    self.refused(BadRows, weights_of, rows, point)
+                    for asked in OF_POINT:
+                        self.refused(BadRows, asked, rows, point)
                 for weights in bad_weights(many):
                     self.refused(BadRows, point_of, rows, weights)
+                for spot in bad_spots(many):
+                    self.refused(BadRows, nearest, rows, spot)
 
     def test_bad_rows_of_one_list(self):
         for many, rows in enumerate(all_bad_rows()):
@@ -239,7 +296,8 @@ class RefusalsTest(unittest.TestCase):
                     for number in (MOST, -MOST):
                         rows = with_number(eye(many), at, place, number)
                         for asked in OF_ONE:
-                            self.refused(None, asked, rows)
+                            told = TooMany if asked is rests and at == place else None
+                            self.refused(told, asked, rows)
                         for asked in OF_TWO:
                             self.refused(None, asked, rows, eye(many))
                             self.refused(None, asked, eye(many), rows)

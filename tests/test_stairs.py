@@ -5,8 +5,8 @@ import itertools
 import unittest
 
 from shortgrid.stairs import common, joined, made_of, same, stair
-from tests.samples import (MOST, bulk_by_all_ways, check_lists_are_new, eye, lies_within, many_grids, mixed,
-                           point_by_adding, some_rows, weights_by_bulks)
+from tests.samples import (MOST, bulk_by_all_ways, check_lists_are_new, eye, lies_within, many_grids, mixed, pairs,
+                           point_by_adding, some_rows, taken, weights_by_bulks)
 
 
 def is_stair(rows):
@@ -15,11 +15,6 @@ def is_stair(rows):
         if any(row[:k]) or row[k] <= 0 or not all(0 <= ahead[k] < row[k] for ahead in rows[:k]):
             return False
     return True
-
-
-def taken(rows, at, times):
-    """The rows with one of them taken so often."""
-    return rows[:at] + [tuple(times * number for number in rows[at])] + rows[at + 1:]
 
 
 def all_stairs(most):
@@ -32,23 +27,6 @@ def all_stairs(most):
     for top, low, last in itertools.product(range(1, most + 1), repeat=3):
         for ahead, far, near in itertools.product(range(low), range(last), range(last)):
             yield [(top, ahead, far), (0, low, near), (0, 0, last)]
-
-
-def pairs():
-    """Two lists of as many rows each, of all sizes and shapes."""
-    for many in (1, 2, 3):
-        for most in (2, 5, 30, MOST):
-            for seed in range(10):
-                one = some_rows(many, most, seed)
-                yield one, some_rows(many, most, seed + 100)
-                yield one, mixed(one, seed)
-                yield one, taken(one, many - 1, 2) if most < MOST else eye(many)
-    yield [(MOST,)], [(MOST - 1,)]
-    yield [(-4,)], [(6,)]
-    yield [(MOST, 0), (0, MOST)], [(MOST - 1, 0), (0, MOST - 1)]
-    yield [(MOST, 1 - MOST), (MOST, MOST)], [(MOST - 1, MOST), (-MOST, MOST - 3)]
-    yield eye(3), [(MOST, MOST, MOST), (MOST, -MOST, MOST), (MOST, MOST, -MOST)]
-    yield [(2, 0, 0), (0, 3, 0), (0, 0, 5)], [(0, 0, 2), (3, 0, 0), (0, 5, 0)]
 
 
 class KindsTest(unittest.TestCase):
